@@ -1,0 +1,1 @@
+"""Circuits in step: how fast a circuit's clock may go, and where its registers go then."""
