@@ -6,6 +6,10 @@ MOST_REGISTERS = 8
 MOST_KIND = 3
 OUTSIDE = 0
 NO_CIRCUIT = -2
+# More than all delays of a circuit together, so that a way with fewer registers always costs less.
+REGISTER_COST = 1048576
+# More than any way from a part to a part that meets none twice can cost.
+NO_WAY = 1099511627776
 
 
 def period(counts, delays, kinds, starts, ends, registers):
@@ -13,6 +17,16 @@ def period(counts, delays, kinds, starts, ends, registers):
     if not is_circuit(counts, delays, kinds, starts, ends, registers):
         return [NO_CIRCUIT]
     return [greatest_delay(delays, starts, ends, registers)]
+
+
+def fits(p, counts, delays, kinds, starts, ends, registers):
+    """1 and the greatest shifts that fit, by which the period is p at most; 0 if there are none; or -2."""
+    if p < 0 or not is_circuit(counts, delays, kinds, starts, ends, registers):
+        return [NO_CIRCUIT]
+    limits = shift_limits(p, delays, way_costs(delays, starts, ends, registers))
+    if not can_be_kept(limits):
+        return [0]
+    return [1] + greatest_shifts(limits)
 
 
 def is_circuit(counts, delays, kinds, starts, ends, registers):
@@ -92,3 +106,71 @@ def greatest_delay(delays, starts, ends, registers):
             if starts[e] == part:
                 slowest[ends[e]] = max(slowest[ends[e]], slowest[part] + delays[ends[e]])
     return max(slowest)
+
+
+def way_costs(delays, starts, ends, registers):
+    """costs[u][v]: what the slowest of the ways from u to v with the fewest registers costs.
+
+    That is REGISTER_COST for each register, less the delays of all its parts but the last.
+    """
+    n = len(delays)
+    costs = [[NO_WAY] * n for part in range(n)]
+    for part in range(n):
+        costs[part][part] = 0
+    for start, end, many in zip(starts, ends, registers):
+        costs[start][end] = min(costs[start][end], many * REGISTER_COST - delays[start])
+    # No ring costs less than 0, since each has a register.
+    return least_sums(costs)
+
+
+def least_sums(table):
+    """For each two parts the least sum of the table's numbers over the steps of any row from the one to the other.
+
+    If a row back to its beginning has a sum below 0, there is no least; then a number from a part to itself is below 0.
+    """
+    n = len(table)
+    least = [list(row) for row in table]
+    for middle in range(n):
+        for start in range(n):
+            for end in range(n):
+                through = least[start][middle] + least[middle][end]
+                if through < least[start][end]:
+                    least[start][end] = through
+    return least
+
+
+def shift_limits(p, delays, costs):
+    """limits[u][v]: by how much u's shift may be above v's at most, that shifts fit and the period is p at most."""
+    limits = []
+    for row in costs:
+        limits.append([way_limit(p, cost, last) for cost, last in zip(row, delays)])
+    return least_sums(limits)
+
+
+def way_limit(p, cost, last):
+    """How many registers may be taken from a way of this cost, the last of whose parts has this delay."""
+    many = -(-cost // REGISTER_COST)
+    # Too slow a way has to keep a register; one with more than the fewest registers always keeps some.
+    if way_delay(cost, last) > p:
+        return many - 1
+    return many
+
+
+def way_delay(cost, last):
+    """The delay of a way of this cost, the last of whose parts has this delay."""
+    return -cost % REGISTER_COST + last
+
+
+def can_be_kept(limits):
+    """Whether there are shifts that keep to the limits."""
+    return min([limits[part][part] for part in range(len(limits))]) >= 0
+
+
+def greatest_shifts(limits):
+    """Sixteen shifts, for each part as great as the limits let it be above the outside's 0."""
+    return filled([row[OUTSIDE] for row in limits], MOST_PARTS)
+
+
+def filled(values, many):
+    """The values, and behind them 0 up to so many."""
+    return values + [0] * (many - len(values))

@@ -5,7 +5,6 @@ import copy
 import inspect
 import io
 import itertools
-import sys
 import unittest
 
 from stepcircuits import circuits
@@ -19,6 +18,7 @@ from tests.helper import (
     told_circuit,
     told_period,
     untouched,
+    within_steps,
 )
 
 SMALL = ([0, 3, 5], [(0, 1, 1), (1, 2, 0), (2, 0, 0)])
@@ -295,25 +295,9 @@ class AgainstTheWords(PeriodCase):
 
 
 class TooManyWays(PeriodCase):
-    STEPS = 100000
-
     def within_steps(self, lists):
         """The answer, if the package comes to it in some steps: walking all ways takes millions."""
-        steps = 0
-
-        def trace(frame, event, arg):
-            nonlocal steps
-            steps += 1
-            if steps > self.STEPS:
-                raise AssertionError("too many steps")
-            return trace
-
-        before = sys.gettrace()
-        sys.settrace(trace)
-        try:
-            return period(*lists)
-        finally:
-            sys.settrace(before)
+        return within_steps(100000, period, *lists)
 
     def test_three_wires_from_each_part_to_the_next(self):
         delays = [0] + [65535 - part for part in range(15)]
