@@ -29,6 +29,15 @@ def fits(p, counts, delays, kinds, starts, ends, registers):
     return [1] + greatest_shifts(limits)
 
 
+def best(counts, delays, kinds, starts, ends, registers):
+    """The least p for which there are shifts as fits answers, and these; or -2."""
+    if not is_circuit(counts, delays, kinds, starts, ends, registers):
+        return [NO_CIRCUIT]
+    costs = way_costs(delays, starts, ends, registers)
+    p = least_period(delays, costs)
+    return [p] + greatest_shifts(shift_limits(p, delays, costs))
+
+
 def is_circuit(counts, delays, kinds, starts, ends, registers):
     """Whether what is handed in is a circuit."""
     n = counts[0]
@@ -174,3 +183,26 @@ def greatest_shifts(limits):
 def filled(values, many):
     """The values, and behind them 0 up to so many."""
     return values + [0] * (many - len(values))
+
+
+def least_period(delays, costs):
+    """The least p for which there are shifts that fit, by which the period is p at most."""
+    periods = possible_periods(delays, costs)
+    # The greatest of them is always enough, since all shifts may stay 0 then.
+    low = 0
+    high = len(periods) - 1
+    while low < high:
+        middle = (low + high) // 2
+        if can_be_kept(shift_limits(periods[middle], delays, costs)):
+            high = middle
+        else:
+            low = middle + 1
+    return periods[low]
+
+
+def possible_periods(delays, costs):
+    """The delays of the ways with the fewest registers, in order: by whatever shifts, the period is one of these."""
+    periods = []
+    for row in costs:
+        periods.extend([way_delay(cost, last) for cost, last in zip(row, delays)])
+    return sorted(set(periods))

@@ -103,6 +103,9 @@ class Statements(unittest.TestCase):
             names = [node.name for node in tree.body if isinstance(node, (ast.FunctionDef, ast.ClassDef))]
             names += [target.id for node in tree.body if isinstance(node, ast.Assign) for target in node.targets]
             self.assertEqual(sorted(set(names)), sorted(names), path)
+            for node in tree.body:
+                if isinstance(node, ast.Assign):
+                    self.assertNotIsInstance(ast.literal_eval(node.value), (list, dict, set), node.lineno)
 
     def test_statements_and_expressions(self):
         for path, _, tree in sources():
