@@ -6,6 +6,7 @@ MOST_REGISTERS = 8
 MOST_KIND = 3
 OUTSIDE = 0
 NO_CIRCUIT = -2
+NO_SHIFTS = -3
 # More than all delays of a circuit together, so that a way with fewer registers always costs less.
 REGISTER_COST = 1048576
 # More than any way from a part to a part that meets none twice can cost.
@@ -36,6 +37,18 @@ def best(counts, delays, kinds, starts, ends, registers):
     costs = way_costs(delays, starts, ends, registers)
     p = least_period(delays, costs)
     return [p] + greatest_shifts(shift_limits(p, delays, costs))
+
+
+def fewest(p, counts, delays, kinds, starts, ends, registers):
+    """How few registers there can be by shifts as fits looks for, and the greatest of these shifts; or -2, -3."""
+    if p < 0 or not is_circuit(counts, delays, kinds, starts, ends, registers):
+        return [NO_CIRCUIT]
+    limits = shift_limits(p, delays, way_costs(delays, starts, ends, registers))
+    if not can_be_kept(limits):
+        return [NO_SHIFTS]
+    # By duality the shifts with the fewest registers are those that use up every limit that bears a load.
+    shifts = greatest_shifts(least_sums(tightened(limits, least_load(limits, starts, ends))))
+    return [sum(shifted(starts, ends, registers, shifts))] + shifts
 
 
 def is_circuit(counts, delays, kinds, starts, ends, registers):
@@ -206,3 +219,70 @@ def possible_periods(delays, costs):
     for row in costs:
         periods.extend([way_delay(cost, last) for cost, last in zip(row, delays)])
     return sorted(set(periods))
+
+
+def shifted(starts, ends, registers, shifts):
+    """How many registers each wire has by these shifts."""
+    return [many + shifts[end] - shifts[start] for start, end, many in zip(starts, ends, registers)]
+
+
+def least_load(limits, starts, ends):
+    """load[u][v]: how much of the cheapest flow goes over the limit of u's shift above v's.
+
+    From each part the flow brings as much as it has more wires out than in. Each limit costs as much as it is; what the
+    flow costs in all is by how many registers the wires together can have fewer.
+    """
+    n = len(limits)
+    load = [[0] * n for part in range(n)]
+    left = wires_out_above_in(n, starts, ends)
+    while max(left) > 0:
+        start = left.index(max(left))
+        end = left.index(min(left))
+        push(load, cheapest_row(tightened(limits, load), start, end))
+        left[start] -= 1
+        left[end] += 1
+    return load
+
+
+def wires_out_above_in(n, starts, ends):
+    """For each part how many wires more lead from it than to it."""
+    return [starts.count(part) - ends.count(part) for part in range(n)]
+
+
+def tightened(limits, load):
+    """The limits, and with each that bears a load its contrary: who keeps to both differs by just as much.
+
+    It is also what a further one costs that is put upon the load, since load can be taken back, and its cost with it.
+    """
+    table = [list(row) for row in limits]
+    for start in range(len(load)):
+        for end in range(len(load)):
+            if load[start][end] > 0:
+                table[end][start] = -limits[start][end]
+    return table
+
+
+def cheapest_row(costs, start, end):
+    """The parts of a row of steps from start to end that costs least."""
+    n = len(costs)
+    least = list(costs[start])
+    before = [start] * n
+    for turn in range(n):
+        for part in range(n):
+            for other in range(n):
+                if least[part] + costs[part][other] < least[other]:
+                    least[other] = least[part] + costs[part][other]
+                    before[other] = part
+    row = [end]
+    while row[0] != start:
+        row.insert(0, before[row[0]])
+    return row
+
+
+def push(load, row):
+    """Puts one more upon the load at each step of the row, or takes one back where there is load against it."""
+    for start, end in zip(row, row[1:]):
+        if load[end][start] > 0:
+            load[end][start] -= 1
+        else:
+            load[start][end] += 1

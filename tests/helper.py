@@ -247,6 +247,14 @@ def told_best(choices):
     return [p] + told_fits(p, choices)[1:]
 
 
+def told_fewest(p, choices):
+    rows = [(many, shifts) for shifts, slowest, many in choices if slowest <= p]
+    if not rows:
+        return [-3]
+    least = min(many for many, _ in rows)
+    return [least] + told_greatest([shifts for many, shifts in rows if many == least])
+
+
 def worth_asking(delays, choices):
     """Numbers p: each period that there is by some shifts, those beside it, and the ends."""
     found = {slowest for _, slowest, _ in choices} | set(delays)
