@@ -51,6 +51,18 @@ def fewest(p, counts, delays, kinds, starts, ends, registers):
     return [sum(shifted(starts, ends, registers, shifts))] + shifts
 
 
+def moved(counts, delays, kinds, starts, ends, registers, shifts):
+    """0 and the 178 numbers of the circuit with its wires' registers by these shifts; or -2, -3."""
+    if not is_circuit(counts, delays, kinds, starts, ends, registers):
+        return [NO_CIRCUIT]
+    after = shifted(starts, ends, registers, shifts)
+    if shifts[OUTSIDE] != 0 or not all_in_range(after):
+        return [NO_SHIFTS]
+    parts = filled(delays, MOST_PARTS) + filled(kinds, MOST_PARTS)
+    wires = filled(starts, MOST_WIRES) + filled(ends, MOST_WIRES) + filled(after, MOST_WIRES)
+    return [0] + counts + parts + wires
+
+
 def is_circuit(counts, delays, kinds, starts, ends, registers):
     """Whether what is handed in is a circuit."""
     n = counts[0]
@@ -286,3 +298,11 @@ def push(load, row):
             load[end][start] -= 1
         else:
             load[start][end] += 1
+
+
+def all_in_range(registers):
+    """Whether each wire has as many registers as a wire may have."""
+    for many in registers:
+        if many < 0 or many > MOST_REGISTERS:
+            return False
+    return True
