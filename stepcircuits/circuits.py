@@ -4,6 +4,13 @@ MOST_PARTS = 16
 MOST_WIRES = 48
 MOST_REGISTERS = 8
 MOST_KIND = 3
+MOST_TICKS = 256
+XORED = 1
+PRODUCT = 2
+MIXED = 3
+MIXING_FACTOR = 2654435761
+# 2 to the 32nd: what is given counts modulo this.
+WORDS = 4294967296
 OUTSIDE = 0
 NO_CIRCUIT = -2
 NO_SHIFTS = -3
@@ -61,6 +68,21 @@ def moved(counts, delays, kinds, starts, ends, registers, shifts):
     parts = filled(delays, MOST_PARTS) + filled(kinds, MOST_PARTS)
     wires = filled(starts, MOST_WIRES) + filled(ends, MOST_WIRES) + filled(after, MOST_WIRES)
     return [0] + counts + parts + wires
+
+
+def run(t, counts, delays, kinds, starts, ends, registers, held, given):
+    """How many words the wires that lead outside bring in t ticks, and these, tick by tick; or -2."""
+    if t < 0 or t > MOST_TICKS or not is_circuit(counts, delays, kinds, starts, ends, registers):
+        return [NO_CIRCUIT]
+    order = signal_order(counts[0], starts, ends, bare_wires(registers))
+    leading = wires_to_each(counts[0], ends)
+    rows = register_rows(registers, held)
+    words = []
+    for tick in range(t):
+        gave = given_by_parts(given[tick], order, kinds, starts, leading, rows)
+        words.extend(brought(leading[OUTSIDE], starts, rows, gave))
+        rows = gone_on(starts, rows, gave)
+    return [len(words)] + words
 
 
 def is_circuit(counts, delays, kinds, starts, ends, registers):
@@ -306,3 +328,67 @@ def all_in_range(registers):
         if many < 0 or many > MOST_REGISTERS:
             return False
     return True
+
+
+def wires_to_each(n, ends):
+    """For each part the numbers of the wires that lead to it."""
+    leading = [[] for part in range(n)]
+    for e, end in enumerate(ends):
+        leading[end].append(e)
+    return leading
+
+
+def register_rows(registers, held):
+    """For each wire what its registers hold, the first register's first."""
+    rows = []
+    at = 0
+    for many in registers:
+        rows.append(held[at:at + many])
+        at += many
+    return rows
+
+
+def given_by_parts(word, order, kinds, starts, leading, rows):
+    """What each part gives at a tick at which the outside gives this word."""
+    gave = [word] * len(kinds)
+    for part in order:
+        if part != OUTSIDE:
+            gave[part] = made(kinds[part], brought(leading[part], starts, rows, gave))
+    return gave
+
+
+def brought(wires, starts, rows, gave):
+    """What these wires bring, if the parts from which those without a register lead give so."""
+    return [rows[e][-1] if len(rows[e]) > 0 else gave[starts[e]] for e in wires]
+
+
+def made(kind, words):
+    """What a part of this kind gives if its wires bring these words."""
+    if kind == XORED:
+        return xored(words)
+    if kind == PRODUCT:
+        return product(words)
+    if kind == MIXED:
+        return (sum(words) * MIXING_FACTOR + 1) % WORDS
+    return sum(words) % WORDS
+
+
+def xored(words):
+    """All words xored, 0 of none."""
+    together = 0
+    for word in words:
+        together = together ^ word
+    return together
+
+
+def product(words):
+    """The words' product, 1 of none."""
+    together = 1
+    for word in words:
+        together = together * word % WORDS
+    return together
+
+
+def gone_on(starts, rows, gave):
+    """What the registers hold behind a tick: all goes on by one, and the first takes what its wire's part gave."""
+    return [([gave[start]] + row)[:len(row)] for start, row in zip(starts, rows)]

@@ -1,11 +1,15 @@
 """What the tests have in common: making circuits, asking the calls, and circuits told plainly."""
 
 import copy
+import functools
+import math
+import operator
 import sys
 import unittest
 
 LEAST_NUMBER = -2147483648
 GREATEST_NUMBER = 2147483647
+GREATEST_WORD = 4294967295
 
 
 class Untouched(list):
@@ -94,6 +98,11 @@ def numbers(seed):
     while True:
         state = (state * 6364136223846793005 + 1442695040888963407) % 2**64
         yield state >> 48
+
+
+def some_words(source, many):
+    """So many words, both ends often among them."""
+    return [(0, GREATEST_WORD, next(source), next(source) * 65536 + 1)[next(source) % 4] for _ in range(many)]
 
 
 def leads(n, wires):
@@ -288,3 +297,42 @@ def lowered_shifts(p, delays, wires):
         if shifts == before:
             return [1] + shifts + [0] * (16 - len(shifts))
     return [0]
+
+
+def told_given(kind, brought):
+    """What a part of this kind gives if its wires bring these words."""
+    whole = {
+        0: sum(brought),
+        1: functools.reduce(operator.xor, brought, 0),
+        2: math.prod(brought),
+        3: sum(brought) * 2654435761 + 1,
+    }
+    return whole[kind] % 2**32
+
+
+def told_run(given, wires, held, kinds):
+    """The words that run answers, told otherwise: nothing goes on, but it's asked how long ago a word was given."""
+    rows = []
+    for _, _, many in wires:
+        used = sum(len(row) for row in rows)
+        rows.append(held[used:used + many])
+    known = {}
+
+    def brought(part, tick):
+        return [
+            gives(start, tick - many) if tick >= many else row[many - 1 - tick]
+            for (start, end, many), row in zip(wires, rows)
+            if end == part
+        ]
+
+    def gives(part, tick):
+        if (part, tick) not in known:
+            known[part, tick] = told_given(kinds[part], brought(part, tick)) if part > 0 else given[tick]
+        return known[part, tick]
+
+    answered = []
+    for tick in range(len(given)):
+        for part in range(len(kinds)):
+            gives(part, tick)
+        answered += brought(0, tick)
+    return answered
